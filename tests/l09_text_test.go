@@ -1261,6 +1261,11 @@ func TestTextsAskedAtOnce(t *testing.T) {
 					wrong[i] = s
 				}
 			}
+			for op := 1; op <= 24; op++ {
+				if want, _ := rawLine(nil, bare(op)); impl.InsText(impl.Class{}, bare(op)) != want {
+					wrong[i] = wordsOfOps[op]
+				}
+			}
 		}()
 	}
 	group.Wait()
