@@ -1671,19 +1671,24 @@ func TestLinkWritesNothing(t *testing.T) {
 	}
 }
 
-func TestProgramsAreNotWritten(t *testing.T) {
-	p := progOf(t, familyText)
-	list := append(listTurns(p), p, impl.Prog{}, supersOf(1, 2, 0), supersOf(-1, 0, 1, 2, 3, 4, 5, 6))
+// wantUnwritten: of each program neither its lists nor the spare room behind them are written, and what stands there is not told.
+func wantUnwritten(t *testing.T, list []impl.Prog, tell func(impl.Prog) string) {
+	t.Helper()
 	for _, p := range list {
 		given := roomyProg(p)
 		were := cloneProg(wholeProg(given))
-		if tellProg(given) != tellProg(cloneProg(p)) {
+		if tell(given) != tell(cloneProg(p)) {
 			t.Fatalf("%+v: an answer hangs on the room behind it", p)
 		}
 		if !sameProg(wholeProg(given), were) || !sameProg(given, p) {
 			t.Fatalf("%+v is written into", p)
 		}
 	}
+}
+
+func TestProgramsAreNotWritten(t *testing.T) {
+	p := progOf(t, familyText)
+	wantUnwritten(t, append(listTurns(p), p, impl.Prog{}, supersOf(1, 2, 0), supersOf(-1, 0, 1, 2, 3, 4, 5, 6)), tellProg)
 }
 
 // progLists gathers all lists of a program, those in the spare room of others among them.
@@ -1811,16 +1816,12 @@ func TestProgramsAreNewMemory(t *testing.T) {
 	}
 }
 
-// Whatever was asked ahead of it, right or wrong: the answer is the same, however often it is asked for.
-func TestLinkKeepsNothing(t *testing.T) {
-	list := setsForMemory(t)
-	tell := func(set []impl.Class) string {
-		p, how := impl.Link(set)
-		return fmt.Sprintf("%+v %d %s", p, how, tellProg(p))
-	}
+// wantToldAgain: whatever was asked ahead of it, right or wrong, what is told is the same, however often it is asked for.
+func wantToldAgain[T any](t *testing.T, list []T, tell func(T) string) {
+	t.Helper()
 	var were []string
-	for _, set := range list {
-		were = append(were, tell(set))
+	for _, x := range list {
+		were = append(were, tell(x))
 	}
 	for _, step := range []int{1, 7, 11, len(list) - 1} {
 		for i := range list {
@@ -1830,11 +1831,16 @@ func TestLinkKeepsNothing(t *testing.T) {
 			}
 		}
 	}
-	family := setOf(t, familyText)
-	want := tell(family)
 	for range 300 {
-		if now := tell(family); now != want {
-			t.Fatalf("now %s, ahead of it %s", now, want)
+		if now := tell(list[0]); now != were[0] {
+			t.Fatalf("%+v: now %s, ahead of it %s", list[0], now, were[0])
 		}
 	}
+}
+
+func TestLinkKeepsNothing(t *testing.T) {
+	wantToldAgain(t, append([][]impl.Class{setOf(t, familyText)}, setsForMemory(t)...), func(set []impl.Class) string {
+		p, how := impl.Link(set)
+		return fmt.Sprintf("%+v %d %s", p, how, tellProg(p))
+	})
 }
