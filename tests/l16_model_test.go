@@ -1563,25 +1563,42 @@ func TestThreadsUpToMaxThreads(t *testing.T) {
 	}
 }
 
+// tooMany is far more than there may be of anything.
+const tooMany = 1 << 18
+
+// modelsFarTooGreat have far too much of one thing each.
+func modelsFarTooGreat(t *testing.T) []impl.Model {
+	t.Helper()
+	var list []impl.Model
+	for _, turn := range []func(m *impl.Model){
+		func(m *impl.Model) { m.Threads = manyThreads(1, tooMany) },
+		func(m *impl.Model) { m.Threads = make([]impl.Thread, tooMany) },
+		func(m *impl.Model) { m.Threads[0].Frames = make([]impl.Frame, tooMany) },
+		func(m *impl.Model) { m.Threads[0].Frames[2].Stack = make([]impl.Val, tooMany) },
+		func(m *impl.Model) { m.Out = make([]int, tooMany) },
+		func(m *impl.Model) { m.Memory.Objects = make([]impl.Object, tooMany) },
+		func(m *impl.Model) { m.Memory.Locks = make([]impl.Lock, tooMany) },
+		func(m *impl.Model) { m.Memory.Objects[0].Fields = make([]impl.Val, tooMany) },
+		func(m *impl.Model) { m.Prog.Kinds = make([]impl.Kind, tooMany) },
+		func(m *impl.Model) { m.Prog.Kinds[0].Methods[0].List = make([]impl.Ins, tooMany) },
+		func(m *impl.Model) { m.Prog = impl.Prog{Kinds: slices.Repeat(m.Prog.Kinds, tooMany/8)} },
+	} {
+		m := someModel(t)
+		turn(&m)
+		list = append(list, m)
+	}
+	return list
+}
+
+// greatModel is right: a memory may be as great as it is.
+func greatModel(t *testing.T) impl.Model {
+	t.Helper()
+	return impl.Model{Prog: memoryProg(t), Memory: manyObjects(tooMany), Threads: []impl.Thread{{Id: 3, Frames: []impl.Frame{{Locals: valsOf("@3")}}}}}
+}
+
 // P33: what is far too much is answered, too.
 func TestModelsThatAreFarTooGreat(t *testing.T) {
-	const many = 1 << 18
-	right := someModel(t)
-	for _, turn := range []func(m *impl.Model){
-		func(m *impl.Model) { m.Threads = manyThreads(1, many) },
-		func(m *impl.Model) { m.Threads = make([]impl.Thread, many) },
-		func(m *impl.Model) { m.Threads[0].Frames = make([]impl.Frame, many) },
-		func(m *impl.Model) { m.Threads[0].Frames[2].Stack = make([]impl.Val, many) },
-		func(m *impl.Model) { m.Out = make([]int, many) },
-		func(m *impl.Model) { m.Memory.Objects = make([]impl.Object, many) },
-		func(m *impl.Model) { m.Memory.Locks = make([]impl.Lock, many) },
-		func(m *impl.Model) { m.Memory.Objects[0].Fields = make([]impl.Val, many) },
-		func(m *impl.Model) { m.Prog.Kinds = make([]impl.Kind, many) },
-		func(m *impl.Model) { m.Prog.Kinds[0].Methods[0].List = make([]impl.Ins, many) },
-		func(m *impl.Model) { m.Prog = impl.Prog{Kinds: slices.Repeat(m.Prog.Kinds, many/8)} },
-	} {
-		m := cloneModel(right)
-		turn(&m)
+	for _, m := range modelsFarTooGreat(t) {
 		if impl.ModelOk(m) || impl.Safe(m) {
 			t.Fatal("ModelOk")
 		}
@@ -1592,13 +1609,12 @@ func TestModelsThatAreFarTooGreat(t *testing.T) {
 			t.Fatal("Run", codes)
 		}
 	}
-	wantNoModel(t, impl.Prog{Kinds: make([]impl.Kind, many)})
-	// A memory may be as great as it is.
-	m := impl.Model{Prog: memoryProg(t), Memory: manyObjects(many), Threads: []impl.Thread{{Id: 3, Frames: []impl.Frame{{Locals: valsOf("@3")}}}}}
+	wantNoModel(t, impl.Prog{Kinds: make([]impl.Kind, tooMany)})
+	m := greatModel(t)
 	if got, how := impl.Step(m, 3); how != impl.StDone || !sameMemory(got.Memory, m.Memory) || !impl.ModelOk(m) || !impl.Safe(m) {
 		t.Error("Step", how)
 	}
-	if impl.ThreadOf(impl.Model{Threads: manyThreads(1, many)}, many) != many-1 {
+	if impl.ThreadOf(impl.Model{Threads: manyThreads(1, tooMany)}, tooMany) != tooMany-1 {
 		t.Error("ThreadOf")
 	}
 }
@@ -1757,12 +1773,14 @@ func tellModels(m impl.Model) string {
 	return told.String()
 }
 
-// P33: neither a model's lists, nor those of what is in it, nor the spare room behind them are written; what stands there does not count.
-func TestModelsAreNotWritten(t *testing.T) {
+// wantModelsUnwritten: neither a model's lists, nor those of what is in it, nor the spare room behind them are written, whatever is told of
+// it; what stands there does not count.
+func wantModelsUnwritten(t *testing.T, tell func(m impl.Model) string) {
+	t.Helper()
 	for _, m := range modelsForMemory(t) {
 		given := roomyModel(m)
 		whole := cloneModel(wholeModel(given))
-		if tellModels(given) != tellModels(cloneModel(m)) {
+		if tell(given) != tell(cloneModel(m)) {
 			t.Fatalf("%s: an answer hangs on the room behind it", tellModel(m))
 		}
 		if !sameModel(wholeModel(given), whole) || !sameModel(given, m) {
@@ -1770,6 +1788,9 @@ func TestModelsAreNotWritten(t *testing.T) {
 		}
 	}
 }
+
+// P33.
+func TestModelsAreNotWritten(t *testing.T) { wantModelsUnwritten(t, tellModels) }
 
 // P33: an order is not written, nor the room behind it.
 func TestRunWritesNoOrder(t *testing.T) {
@@ -1786,12 +1807,16 @@ func TestRunWritesNoOrder(t *testing.T) {
 	}
 }
 
-func TestModelsKeepNothing(t *testing.T) {
+// wantModelsToldAgain asks of some of modelsForMemory.
+func wantModelsToldAgain(t *testing.T, tell func(m impl.Model) string) {
+	t.Helper()
 	var list []impl.Model
 	for i, m := range modelsForMemory(t) {
 		if i%9 == 0 || i > 118 && len(m.Threads) < 9 {
 			list = append(list, m)
 		}
 	}
-	wantToldAgain(t, list, tellModels)
+	wantToldAgain(t, list, tell)
 }
+
+func TestModelsKeepNothing(t *testing.T) { wantModelsToldAgain(t, tellModels) }
