@@ -544,6 +544,7 @@ func letterThere(body []byte) (wraps bool, number, told int, m impl.Msg, ok bool
 
 // Whatever stands at one byte: what arrives is just what Wrap and Nod make.
 func TestArriveIsOfJustWhatWrapAndNodMake(t *testing.T) {
+	t.Parallel()
 	came, forgot, nothing := 0, 0, 0
 	bodies := [][]byte{rawNod(2), rawNod(300), rawNod(impl.MaxNum)}
 	for _, m := range manyMsgs(10) {
@@ -680,6 +681,7 @@ func (x *badNet) step(t *testing.T, pick int) {
 }
 
 func TestLinesOverABadNet(t *testing.T) {
+	t.Parallel()
 	for run := range 6 {
 		x := badNet{net: impl.Net{Size: 2}}
 		seed := run + 1
@@ -858,6 +860,7 @@ func bytesForMemory() [][]byte {
 
 // P33: neither a line's lists, nor those of the message, nor the bytes, nor the spare room behind them are written.
 func TestLinesWriteNothing(t *testing.T) {
+	t.Parallel()
 	for _, made := range linesForMemory() {
 		l := impl.Line{Out: roomySender(made.Out), Got: made.Got}
 		m := roomyMsg(impl.Msg{Kind: impl.MgGrant, Id: 1, Who: 1, Notes: someNotes()})
@@ -877,6 +880,7 @@ func TestLinesWriteNothing(t *testing.T) {
 
 // P33: no answer shares memory with an argument, and no two lists of one answer share any.
 func TestLineAnswersAreNewMemory(t *testing.T) {
+	t.Parallel()
 	for _, made := range linesForMemory() {
 		for _, sealed := range bytesForMemory() {
 			for _, ask := range lineAsks(made) {

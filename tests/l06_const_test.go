@@ -394,6 +394,7 @@ func TestConstOfIsJustWhatConstBytesMakes(t *testing.T) {
 }
 
 func TestConstOfOfAnyBytes(t *testing.T) {
+	t.Parallel()
 	const kinds = "\x00\x01\x02\x03\x04\x05\x08\x80azAZ@[`{"
 	read := 0
 	for i := range 1 << 16 {

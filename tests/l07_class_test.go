@@ -692,6 +692,7 @@ func TestCountsThatAreTooGreat(t *testing.T) {
 
 // Whatever stands at one byte: what is read is just what is written so.
 func TestClassOfIsJustWhatClassBytesMakes(t *testing.T) {
+	t.Parallel()
 	read := 0
 	for _, c := range []impl.Class{{Name: "A"}, {Name: "A", Super: "B", Pool: manyConsts(8)}, {Name: "Cell", Fields: manyFields(4)}, {Name: "A", Methods: manyMethods(4)}, someClass()} {
 		whole := rawClass(c)
@@ -711,6 +712,7 @@ func TestClassOfIsJustWhatClassBytesMakes(t *testing.T) {
 }
 
 func TestClassOfOfAnyBytes(t *testing.T) {
+	t.Parallel()
 	const kinds = "\x00\x01\x02\x03\x05\x80IaB"
 	read := 0
 	for i := range 9 * 9 * 9 * 9 * 9 {

@@ -381,6 +381,7 @@ func TestNumbersOfTheLastPlace(t *testing.T) {
 
 // A jump of each place to each place, and to what is none, in code whose places are of both sizes.
 func TestJumps(t *testing.T) {
+	t.Parallel()
 	for _, whole := range [][]impl.Ins{{ret()}, {ret(), ret()}, eachOp(), manyPlaces(3, 5), manyPlaces(12, 17), manyPlaces(40, 70)} {
 		for i := range whole {
 			for _, op := range []int{impl.OpZero, impl.OpGoto} {
@@ -433,6 +434,7 @@ func TestHowManyBytes(t *testing.T) {
 
 // P8: cut short at each place, also where the rest stands in the spare room, and with a byte behind the end.
 func TestCodeCutShort(t *testing.T) {
+	t.Parallel()
 	for _, list := range rightCodes() {
 		b := rawCode(list)
 		for cut := range b {
@@ -528,6 +530,7 @@ func TestBytesOfNumbers(t *testing.T) {
 
 // Whatever stands at one byte, is left out or put in: what is read is just what is written so.
 func TestDecodeIsJustWhatEncodeMakes(t *testing.T) {
+	t.Parallel()
 	read := 0
 	for _, list := range [][]impl.Ins{{ret()}, {jump(0)}, {push(1), ret()}, eachOp(), manyPlaces(12, 17), manyPlaces(46, 90), slices.Repeat([]impl.Ins{ret()}, impl.MaxCode)} {
 		whole := rawCode(list)
@@ -549,6 +552,7 @@ func TestDecodeIsJustWhatEncodeMakes(t *testing.T) {
 }
 
 func TestDecodeOfAnyBytes(t *testing.T) {
+	t.Parallel()
 	const kinds = "\x00\x01\x02\x03\x05\x0d\x0e\x13\x18\x19"
 	read := 0
 	for i := range 10 * 10 * 10 * 10 * 10 {

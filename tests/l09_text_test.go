@@ -883,6 +883,7 @@ func TestTextsThatAreNone(t *testing.T) {
 
 // A text cut short at each place, from both ends, and with something ahead of it or behind it.
 func TestTextsCutShort(t *testing.T) {
+	t.Parallel()
 	read := 0
 	for _, s := range rightTexts()[:20] {
 		step := 1 + len(s)/500
@@ -918,6 +919,7 @@ func shortTexts() []string {
 
 // Whatever stands at one byte, is left out or put in: what is read is just what is written so.
 func TestTextsWithAByteTurned(t *testing.T) {
+	t.Parallel()
 	read := 0
 	for _, s := range shortTexts() {
 		for i := range s {
@@ -942,6 +944,7 @@ func TestTextsWithAByteTurned(t *testing.T) {
 
 // Lines left out, doubled and in another order.
 func TestTextsWithLinesTurned(t *testing.T) {
+	t.Parallel()
 	read := 0
 	for _, s := range append(shortTexts(), eachOpText, poolText(9)) {
 		lines := strings.SplitAfter(s, "\n")
@@ -965,6 +968,7 @@ func TestTextsWithLinesTurned(t *testing.T) {
 }
 
 func TestTextsOfAnyLines(t *testing.T) {
+	t.Parallel()
 	pieces := []string{"class A\n", "class B A\n", "field n I\n", "method f I 1\n", "method g A 2 I\n", "push 1\n", "return\n", "goto 1\n", "get A.n\n", "\n", "class "}
 	n := len(pieces)
 	read, sets := 0, 0
@@ -1049,6 +1053,7 @@ func TestSetsWithOneThatIsWrong(t *testing.T) {
 
 // P33: what is far too much is answered, too.
 func TestTextsThatAreFarTooLong(t *testing.T) {
+	t.Parallel()
 	const many = 1 << 20
 	for _, s := range []string{"\n", " ", "a", "0", ".", "class A\n", "class ", "\nclass ", "field n I\n", "return\n", "const 1\n", "\xff", "\x00", "\u00e9", "\nclass A"} {
 		long := strings.Repeat(s, many/len(s))
@@ -1115,6 +1120,7 @@ func TestTextsWriteNothing(t *testing.T) {
 
 // P33: no two lists of one answer share any memory, neither of one class nor of two of a set: where one is written over, all others are as they were.
 func TestListsOfOneSetAreApart(t *testing.T) {
+	t.Parallel()
 	list := rightTexts()
 	for from := range list {
 		s := list[from] + eachOpText + list[from] + list[(from+1)%len(list)]

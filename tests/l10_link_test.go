@@ -1529,6 +1529,7 @@ func (d *dice) someSet() []impl.Class {
 
 // P10, of sets of all sorts; each code is met often.
 func TestLinkOfManySets(t *testing.T) {
+	t.Parallel()
 	var counts [9]int
 	d := dice(10)
 	for range 20000 {

@@ -408,6 +408,7 @@ func wantTreeTypes(t *testing.T, p impl.Prog) {
 }
 
 func TestTypesOfAllPrograms(t *testing.T) {
+	t.Parallel()
 	for classes := 1; classes <= 6; classes++ {
 		supers := make([]int, classes)
 		for choice := range 720 {
@@ -445,6 +446,7 @@ func twistedProgs() []impl.Prog {
 }
 
 func TestTypesOfTwistedPrograms(t *testing.T) {
+	t.Parallel()
 	for _, p := range twistedProgs() {
 		if impl.ProgOk(p) {
 			t.Fatalf("%+v is in order", p)

@@ -874,6 +874,7 @@ func wrongTurns(p impl.Prog) []impl.Prog {
 }
 
 func TestFlowsOfWrongPrograms(t *testing.T) {
+	t.Parallel()
 	p := flowProg(t)
 	list := append(wrongTurns(p), twistedProgs()...)
 	if len(list) < 500 {
@@ -895,6 +896,7 @@ func TestFlowsOfWrongPrograms(t *testing.T) {
 
 // Each place of each method, whatever it is, with few on the stack, of all types.
 func TestAfterOfAllSmallFlows(t *testing.T) {
+	t.Parallel()
 	p := flowProg(t)
 	var counts [5]int
 	for _, x := range eachMethod(p) {
@@ -963,6 +965,7 @@ func (d *dice) stackFor(x placeBook, in impl.Ins, f impl.Flow) impl.Flow {
 }
 
 func TestAfterOfManyFlows(t *testing.T) {
+	t.Parallel()
 	d := dice(120)
 	var counts [5]int
 	list := eachMethod(flowProg(t))
@@ -1003,6 +1006,7 @@ func wantBy(t *testing.T, x placeBook, in impl.Ins, more, less impl.Flow) bool {
 
 // P12, of all flows with two locals and at most one on the stack, and of all with one local and at most two on the stack.
 func TestWhoKnowsMoreGetsBy(t *testing.T) {
+	t.Parallel()
 	p := flowProg(t)
 	by := 0
 	for _, x := range []placeBook{{p, 0, 0}, {p, 2, 1}, {p, 2, 3}, {p, 0, 1}} {
@@ -1063,6 +1067,7 @@ func (d *dice) knowingMore(p impl.Prog, f impl.Flow) impl.Flow {
 
 // P12, of flows of all sizes: at each place, and where two flows meet.
 func TestWhoKnowsMoreGetsByOfManyFlows(t *testing.T) {
+	t.Parallel()
 	d := dice(121)
 	by, apart := 0, 0
 	list := eachMethod(flowProg(t))
@@ -1089,6 +1094,7 @@ func TestWhoKnowsMoreGetsByOfManyFlows(t *testing.T) {
 
 // P12 of Meet: both know more than what they meet in, so that both get by wherever that does.
 func TestWhoMeetsGetsBy(t *testing.T) {
+	t.Parallel()
 	d := dice(122)
 	by := 0
 	list := eachMethod(flowProg(t))

@@ -671,6 +671,7 @@ func TestSoundOfPlaces(t *testing.T) {
 
 // Each type at each place of what is told, and each number of locals, on the stack and held.
 func TestSoundOfEachType(t *testing.T) {
+	t.Parallel()
 	p := runProg(t, 3, "push 1; zero 5; null; store 1; goto 7; new Far; store 1; load 1; load 0; enter; push 5; load 1; pop; pop; load 0; exit; pop; push 0; return")
 	sound, asked := 0, 0
 	for k := range 4 {
@@ -786,6 +787,7 @@ func (d *dice) someRun() []impl.Ins {
 
 // P13, of many programs: what is known at each place holds, and it is what the test's own tells; each code is met, and many rounds are.
 func TestFlowsOfManyPrograms(t *testing.T) {
+	t.Parallel()
 	d := dice(13)
 	var codes [5]int
 	var rounds [20]int
@@ -818,6 +820,7 @@ func TestFlowsOfManyPrograms(t *testing.T) {
 
 // Programs of all shapes: whatever Link makes, with all their methods.
 func TestWalksOfLinkedPrograms(t *testing.T) {
+	t.Parallel()
 	d := dice(131)
 	var codes [5]int
 	for range 1500 {
@@ -868,6 +871,7 @@ func (d *dice) wantWay(t *testing.T, x placeBook, told walkBook) int {
 
 // P13: what is checked can't go wrong, whichever way it goes.
 func TestWaysThroughWhatIsChecked(t *testing.T) {
+	t.Parallel()
 	d := dice(132)
 	base := walkProg(t)
 	ways, steps := 0, 0
@@ -928,6 +932,7 @@ func wantAllBelow(t *testing.T, p impl.Prog) int {
 
 // P13: what was checked is by as much in each class below.
 func TestWhatIsCheckedIsCheckedBelow(t *testing.T) {
+	t.Parallel()
 	d := dice(133)
 	base := walkProg(t)
 	checked := wantAllBelow(t, progOf(t, familyText)) + wantAllBelow(t, flowProg(t))

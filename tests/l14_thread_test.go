@@ -1351,6 +1351,7 @@ func (d *dice) someThread(p impl.Prog) impl.Thread {
 
 // P14, of threads of all sorts at places of all sorts: what the test's own tells; each op is done, is not done, and stops a thread where it can.
 func TestLocalOfManyThreads(t *testing.T) {
+	t.Parallel()
 	d := dice(141)
 	base := dealtProg(t)
 	var done, undone, stopped [25][6]int
@@ -1392,6 +1393,7 @@ func TestLocalOfManyThreads(t *testing.T) {
 
 // P14, of threads that go on: from the beginning on, whatever is called and given, they stay right until nothing is done any more.
 func TestThreadsThatGoOnStayRight(t *testing.T) {
+	t.Parallel()
 	d := dice(142)
 	base := dealtProg(t)
 	var states [6]int
@@ -1425,6 +1427,7 @@ func TestThreadsThatGoOnStayRight(t *testing.T) {
 
 // What was checked goes on to its end, or stops: with values that are by what was known, and the classes that are told, no place is undone.
 func TestThreadsOfWhatIsChecked(t *testing.T) {
+	t.Parallel()
 	d := dice(143)
 	base := walkProg(t)
 	var states [6]int
@@ -1480,6 +1483,7 @@ func TestTurnsOfTurnedPrograms(t *testing.T) {
 
 // P33: what is far too much is answered, too.
 func TestThreadsThatAreFarTooGreat(t *testing.T) {
+	t.Parallel()
 	const many = 1 << 18
 	p := threadProg(t, 2, "push 0; return")
 	long := make([]impl.Val, many)
@@ -1607,6 +1611,7 @@ func progsForThreads(t *testing.T) []impl.Prog {
 
 // P33: an answer shares no memory with a thread, nor with the program, nor with another answer, nor do two frames of it with each other.
 func TestThreadsAreNewMemory(t *testing.T) {
+	t.Parallel()
 	for _, p := range progsForThreads(t) {
 		for _, th := range threadsForMemory() {
 			for _, x := range threadAsks() {
@@ -1699,6 +1704,7 @@ func tellThreads(p impl.Prog) string {
 
 // P33: neither the classes, nor their lists, nor the spare room behind them are written; what stands there does not count.
 func TestThreadsWriteNoProgram(t *testing.T) {
+	t.Parallel()
 	list := progsForThreads(t)
 	for i, p := range listTurns(opProg(t, "call Main.put")) {
 		if i%8 == 0 {

@@ -939,6 +939,7 @@ func manyObjects(n int) impl.Memory {
 
 // P33: what is far too much is answered, too.
 func TestMemoriesThatAreFarTooGreat(t *testing.T) {
+	t.Parallel()
 	const many = 1 << 18
 	p := memoryProg(t)
 	m := manyObjects(many)
@@ -1162,6 +1163,7 @@ func tellAllMemories(p impl.Prog) string {
 
 // P33: neither the classes, nor their lists, nor the spare room behind them are written; what stands there does not count.
 func TestMemoriesWriteNoProgram(t *testing.T) {
+	t.Parallel()
 	list := progsForMemory(t)
 	for i, p := range listTurns(list[0]) {
 		if i%6 == 0 {
@@ -1172,6 +1174,7 @@ func TestMemoriesWriteNoProgram(t *testing.T) {
 }
 
 func TestMemoriesKeepNothing(t *testing.T) {
+	t.Parallel()
 	wantToldAgain(t, progsForMemory(t)[:4], tellAllMemories)
 	p := memoryProg(t)
 	wantToldAgain(t, memoriesForMemory(), func(m impl.Memory) string { return tellMemories(p, m) })

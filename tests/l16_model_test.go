@@ -261,6 +261,7 @@ func TestModelNewOfWrongPrograms(t *testing.T) {
 }
 
 func TestModelNewOfManyPrograms(t *testing.T) {
+	t.Parallel()
 	d := dice(160)
 	base := walkProg(t)
 	list := listTurns(threadProg(t, 2, "load 0; call Main.get; return"))
@@ -327,6 +328,7 @@ func wantNothingDone(t *testing.T, m impl.Model) {
 }
 
 func TestModelOk(t *testing.T) {
+	t.Parallel()
 	var counts [2]int
 	ask := func(what string, turn func(m *impl.Model)) {
 		m := someModel(t)
@@ -1189,6 +1191,7 @@ func (d *dice) someThreads(p impl.Prog) []impl.Thread {
 
 // Models of all sorts, with code that nobody has checked: what the test's own tells; each op is done, waits, and ends a thread where it can.
 func TestStepsOfManyModels(t *testing.T) {
+	t.Parallel()
 	d := dice(164)
 	base := dealtProg(t)
 	var done, waited, over [25]int
@@ -1446,6 +1449,7 @@ func (d *dice) wantLife(t *testing.T, p impl.Prog, counts *lifeCount) {
 
 // P16 and P13, of many programs that are checked, whichever thread goes on when.
 func TestWhatIsCheckedIsSafe(t *testing.T) {
+	t.Parallel()
 	d := dice(165)
 	base := lifeProg(t)
 	var counts lifeCount
@@ -1468,6 +1472,7 @@ func TestWhatIsCheckedIsSafe(t *testing.T) {
 
 // P16, of one thread each: whatever Link makes of what is checked, and one that is one turn away from what is.
 func TestWhatIsLinkedAndCheckedIsSafe(t *testing.T) {
+	t.Parallel()
 	d := dice(166)
 	var list []impl.Prog
 	base := walkProg(t)
@@ -1537,6 +1542,7 @@ func TestWhatWasPrintedStays(t *testing.T) {
 
 // Threads that each start two more, up to MaxThreads.
 func TestThreadsUpToMaxThreads(t *testing.T) {
+	t.Parallel()
 	m := newModel(t, progOf(t, "class Main\nmethod run I 1\nnew Main\nstart\nnew Main\nstart\ngoto 0\n"))
 	d := dice(167)
 	var order []int
@@ -1598,6 +1604,7 @@ func greatModel(t *testing.T) impl.Model {
 
 // P33: what is far too much is answered, too.
 func TestModelsThatAreFarTooGreat(t *testing.T) {
+	t.Parallel()
 	for _, m := range modelsFarTooGreat(t) {
 		if impl.ModelOk(m) || impl.Safe(m) {
 			t.Fatal("ModelOk")
@@ -1711,6 +1718,7 @@ func modelAsks() []modelAsk {
 
 // P33: an answer shares no memory with a model, nor with another answer, nor do two lists of it with each other.
 func TestModelsAreNewMemory(t *testing.T) {
+	t.Parallel()
 	for i, m := range modelsForMemory(t) {
 		for _, x := range modelAsks() {
 			given := roomyModel(m)

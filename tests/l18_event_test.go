@@ -534,6 +534,7 @@ func TestEventsOkOfItsLimits(t *testing.T) {
 
 // Models of all sorts, with code that nobody has checked: each kind is met, and what is not done, too.
 func TestEventsOfManyModels(t *testing.T) {
+	t.Parallel()
 	d := dice(183)
 	base := dealtProg(t)
 	var counts [7]int
@@ -724,6 +725,7 @@ func (d *dice) wantApart(t *testing.T, p impl.Prog, counts *[7][7]int) {
 
 // P18, of many programs that are checked, whichever thread goes on when.
 func TestStepsOfManyProgramsInEitherOrder(t *testing.T) {
+	t.Parallel()
 	d := dice(184)
 	base := lifeProg(t)
 	var counts [7][7]int
@@ -780,6 +782,7 @@ func TestOrdersThatAreChanged(t *testing.T) {
 
 // P33: what is far too much is answered, too.
 func TestEventsOfModelsThatAreFarTooGreat(t *testing.T) {
+	t.Parallel()
 	for _, m := range modelsFarTooGreat(t) {
 		wantNoEvent(t, m, 3)
 	}

@@ -497,6 +497,7 @@ func TestRacesOfLongLists(t *testing.T) {
 
 // Of as many threads as there may be events the last one knows them all.
 func TestRacesOfManyThreads(t *testing.T) {
+	t.Parallel()
 	var chain, apart []impl.Event
 	for i := range 1500 {
 		chain = append(chain, impl.Event{Who: i + 1, Kind: impl.EvWrite, Id: 4}, impl.Event{Who: i + 1, Kind: impl.EvStart, Id: i + 2})
@@ -526,6 +527,7 @@ func shortEvents() []impl.Event {
 }
 
 func TestRacesOfAllShortLists(t *testing.T) {
+	t.Parallel()
 	all := shortEvents()
 	var counts [2]int
 	for n := range len(all) * len(all) * len(all) {
@@ -557,6 +559,7 @@ func (d *dice) someList(long, threads, fields, orders int) []impl.Event {
 }
 
 func TestRacesOfManyLists(t *testing.T) {
+	t.Parallel()
 	d := dice(191)
 	var counts [2]int
 	late := 0
@@ -607,6 +610,7 @@ func TestRacesOfLongerLists(t *testing.T) {
 
 // P19: one thread alone never races, whatever it does.
 func TestOneThreadAloneNeverRaces(t *testing.T) {
+	t.Parallel()
 	d := dice(193)
 	for range 300 {
 		list := d.someList(d.below(120), 3, 2, d.below(8))
@@ -776,6 +780,7 @@ func TestWellMadeUpToTheRace(t *testing.T) {
 
 // Programs that are checked, with monitors here and there.
 func TestWellMadeOfManyPrograms(t *testing.T) {
+	t.Parallel()
 	d := dice(196)
 	base := lifeProg(t)
 	var counts [2]int
@@ -817,6 +822,7 @@ func (d *dice) guardedDeed(deep int) string {
 
 // P19: whatever threads do, if it is done to each object behind its monitor.
 func TestProgramsThatAreGuardedAreWellMade(t *testing.T) {
+	t.Parallel()
 	d := dice(198)
 	touched, races := 0, 0
 	for done := 0; done < 60; {
@@ -849,6 +855,7 @@ func TestProgramsThatAreGuardedAreWellMade(t *testing.T) {
 
 // What is not right has no trace, and so no race; neither has an order that is too long.
 func TestWellMadeOfWhatIsWrong(t *testing.T) {
+	t.Parallel()
 	m := newModel(t, progOf(t, guardText(noGuard, noGuard)))
 	order := make([]int, 3000)
 	for i := range order {
@@ -953,6 +960,7 @@ func tellRaces(told string) string {
 
 // P33: no call leaves anything behind that a later one shows; the order in which maps are gone through shows nowhere.
 func TestRacesKeepNothing(t *testing.T) {
+	t.Parallel()
 	wantToldAgain(t, listsForMemory(), tellRaces)
 	d := dice(197)
 	for range 30 {
