@@ -220,31 +220,33 @@ func wantCount(t *testing.T, told string, who, n int) {
 	}
 }
 
-func TestCount(t *testing.T) {
+// A countCase is of a list that holds one number against another one.
+type countCase struct {
+	told   string
+	who, n int
+}
+
+func countCases() []countCase {
 	const told = "1.5 2.16777215 17.1 1000000.9"
-	for who, n := range map[int]int{1: 5, 2: 16777215, 17: 1, 1000000: 9} {
-		wantCount(t, told, who, n)
+	list := []countCase{
+		{told, 1, 5}, {told, 2, 16777215}, {told, 17, 1}, {told, 1000000, 9}, {"", 1, 0},
+		// The first of two, whichever is greater, and wherever they stand.
+		{"3.5 3.8", 3, 5}, {"3.8 3.5", 3, 8}, {"1.1 3.5 2.7 3.8 3.9", 3, 5}, {"3.0 3.8", 3, 0}, {"3.-4 3.8", 3, -4},
+		// In a list that is not right, too.
+		{"9.1 4.2 6.3", 4, 2}, {"9.1 4.2 6.3", 6, 3}, {"9.1 4.2 6.3", 5, 0},
+		{"0.7 -5.8 1000001.9", 0, 7}, {"0.7 -5.8 1000001.9", -5, 8}, {"0.7 -5.8 1000001.9", 1000001, 9},
+		{"1.16777216 2.9223372036854775807", 1, 16777216}, {"1.16777216 2.9223372036854775807", 2, math.MaxInt},
 	}
 	for _, who := range append(edgeNumbers(), 0, 3, 16, 18, 5, 9, impl.MaxId-1, impl.MaxId+1, 1<<32+1) {
-		wantCount(t, told, who, 0)
-		wantCount(t, "", who, 0)
+		list = append(list, countCase{told, who, 0}, countCase{"", who, 0})
 	}
-	wantCount(t, "", 1, 0)
-	// The first of two stamps, whichever is greater, and wherever they stand.
-	wantCount(t, "3.5 3.8", 3, 5)
-	wantCount(t, "3.8 3.5", 3, 8)
-	wantCount(t, "1.1 3.5 2.7 3.8 3.9", 3, 5)
-	wantCount(t, "3.0 3.8", 3, 0)
-	wantCount(t, "3.-4 3.8", 3, -4)
-	// In what is no clock, too.
-	wantCount(t, "9.1 4.2 6.3", 4, 2)
-	wantCount(t, "9.1 4.2 6.3", 6, 3)
-	wantCount(t, "9.1 4.2 6.3", 5, 0)
-	wantCount(t, "0.7 -5.8 1000001.9", 0, 7)
-	wantCount(t, "0.7 -5.8 1000001.9", -5, 8)
-	wantCount(t, "0.7 -5.8 1000001.9", 1000001, 9)
-	wantCount(t, "1.16777216 2.9223372036854775807", 1, 16777216)
-	wantCount(t, "1.16777216 2.9223372036854775807", 2, math.MaxInt)
+	return list
+}
+
+func TestCount(t *testing.T) {
+	for _, x := range countCases() {
+		wantCount(t, x.told, x.who, x.n)
+	}
 }
 
 func wantTick(t *testing.T, was string, who int, told string) {
@@ -324,33 +326,42 @@ func wantJoined2(t *testing.T, a, b, told string) {
 	}
 }
 
+// joinCases are two lists and what is joined of them.
+func joinCases() [][3]string {
+	return [][3]string{
+		// All in common.
+		{"1.5 7.1 40.8", "1.5 7.1 40.8", "1.5 7.1 40.8"},
+		{"1.5 7.1 40.8", "1.4 7.2 40.8", "1.5 7.2 40.8"},
+		{"1.5 7.2 40.9", "1.4 7.1 40.8", "1.5 7.2 40.9"},
+		{"7.2", "7.1", "7.2"},
+		// One, or some.
+		{"1.5 7.1", "7.3 40.8", "1.5 7.3 40.8"},
+		{"1.5 7.4", "7.3 40.8", "1.5 7.4 40.8"},
+		{"1.5 7.1 40.8", "7.3", "1.5 7.3 40.8"},
+		{"1.5 7.1 40.8", "1.6", "1.6 7.1 40.8"},
+		{"1.5 7.1 40.8", "40.7", "1.5 7.1 40.8"},
+		{"2.1 4.1 6.1 8.1", "1.2 2.2 5.2 6.2 9.2", "1.2 2.2 4.1 5.2 6.2 8.1 9.2"},
+		// None: one ahead of the other, in turns, one within the other.
+		{"1.5 2.4", "3.3 4.2", "1.5 2.4 3.3 4.2"},
+		{"1.5 3.3", "2.4 4.2", "1.5 2.4 3.3 4.2"},
+		{"1.5 4.2", "2.4 3.3", "1.5 2.4 3.3 4.2"},
+		{"5.1", "6.1", "5.1 6.1"},
+		// Either one empty, or both.
+		{"", "", ""},
+		{"1.5 7.1 40.8", "", "1.5 7.1 40.8"},
+		{"9.1", "", "9.1"},
+		// Edges of both numbers.
+		{"1.1", "1000000.1", "1.1 1000000.1"},
+		{"1.1 1000000.16777215", "1.16777215 1000000.1", "1.16777215 1000000.16777215"},
+		{"1.16777214 1000000.16777214", "1.16777215 1000000.16777214", "1.16777215 1000000.16777214"},
+		{"1.16777215 1000000.16777215", "1.16777215 1000000.16777215", "1.16777215 1000000.16777215"},
+	}
+}
+
 func TestJoin2(t *testing.T) {
-	// All stamps in common.
-	wantJoined2(t, "1.5 7.1 40.8", "1.5 7.1 40.8", "1.5 7.1 40.8")
-	wantJoined2(t, "1.5 7.1 40.8", "1.4 7.2 40.8", "1.5 7.2 40.8")
-	wantJoined2(t, "1.5 7.2 40.9", "1.4 7.1 40.8", "1.5 7.2 40.9")
-	wantJoined2(t, "7.2", "7.1", "7.2")
-	// Some of them.
-	wantJoined2(t, "1.5 7.1", "7.3 40.8", "1.5 7.3 40.8")
-	wantJoined2(t, "1.5 7.4", "7.3 40.8", "1.5 7.4 40.8")
-	wantJoined2(t, "1.5 7.1 40.8", "7.3", "1.5 7.3 40.8")
-	wantJoined2(t, "1.5 7.1 40.8", "1.6", "1.6 7.1 40.8")
-	wantJoined2(t, "1.5 7.1 40.8", "40.7", "1.5 7.1 40.8")
-	wantJoined2(t, "2.1 4.1 6.1 8.1", "1.2 2.2 5.2 6.2 9.2", "1.2 2.2 4.1 5.2 6.2 8.1 9.2")
-	// None of them: one ahead of the other, in turns, one within the other.
-	wantJoined2(t, "1.5 2.4", "3.3 4.2", "1.5 2.4 3.3 4.2")
-	wantJoined2(t, "1.5 3.3", "2.4 4.2", "1.5 2.4 3.3 4.2")
-	wantJoined2(t, "1.5 4.2", "2.4 3.3", "1.5 2.4 3.3 4.2")
-	wantJoined2(t, "5.1", "6.1", "5.1 6.1")
-	// Either one empty, or both.
-	wantJoined2(t, "", "", "")
-	wantJoined2(t, "1.5 7.1 40.8", "", "1.5 7.1 40.8")
-	wantJoined2(t, "9.1", "", "9.1")
-	// Edges of Who and of N.
-	wantJoined2(t, "1.1", "1000000.1", "1.1 1000000.1")
-	wantJoined2(t, "1.1 1000000.16777215", "1.16777215 1000000.1", "1.16777215 1000000.16777215")
-	wantJoined2(t, "1.16777214 1000000.16777214", "1.16777215 1000000.16777214", "1.16777215 1000000.16777214")
-	wantJoined2(t, "1.16777215 1000000.16777215", "1.16777215 1000000.16777215", "1.16777215 1000000.16777215")
+	for _, x := range joinCases() {
+		wantJoined2(t, x[0], x[1], x[2])
+	}
 	// One list for both.
 	list := clockOf("1.5 7.1 40.8")
 	if got := impl.Join2(list, list); tellClock(got) != "1.5 7.1 40.8" || !impl.Knows(list, list) {
@@ -368,28 +379,44 @@ func wantKnows(t *testing.T, a, b string, knows, back bool) {
 	}
 }
 
+// A knowsCase tells whether a has all that b has, and back.
+type knowsCase struct {
+	a, b        string
+	knows, back bool
+}
+
+func knowsCases() []knowsCase {
+	return []knowsCase{
+		{"", "", true, true},
+		{"1.1", "", true, false},
+		{"1000000.16777215", "", true, false},
+		// The same, less and more.
+		{"1.5 7.1 40.8", "1.5 7.1 40.8", true, true},
+		{"1.6 7.1 40.8", "1.5 7.1 40.8", true, false},
+		{"1.5 7.2 40.8", "1.5 7.1 40.8", true, false},
+		{"1.5 7.1 40.9", "1.5 7.1 40.8", true, false},
+		{"1.16777215", "1.16777214", true, false},
+		{"1.6 7.1 40.8", "1.5 7.2 40.8", false, false},
+		{"1.5 7.9 40.8", "1.5 40.9", false, false},
+		// What is not there, is 0, which is not greater than anything.
+		{"1.5 7.1 40.8", "7.1 40.8", true, false},
+		{"1.5 7.1 40.8", "1.5 40.8", true, false},
+		{"1.5 7.1 40.8", "1.5 7.1", true, false},
+		{"1.5 7.1 40.8", "7.1", true, false},
+		{"1.5 7.1 40.8", "2.1", false, false},
+		{"1.5 7.1 40.8", "41.1", false, false},
+		{"2.5 7.1 40.8", "1.1 2.5 7.1 40.8", false, true},
+		{"1.5", "7.5", false, false},
+		{"1.9 2.9 3.9", "2.1 4.1", false, false},
+		{"1.1", "1000000.1", false, false},
+		{"1.5 7.1 40.8", "7.2", false, false},
+	}
+}
+
 func TestKnows(t *testing.T) {
-	wantKnows(t, "", "", true, true)
-	wantKnows(t, "1.1", "", true, false)
-	wantKnows(t, "1000000.16777215", "", true, false)
-	wantKnows(t, "1.5 7.1 40.8", "1.5 7.1 40.8", true, true)
-	wantKnows(t, "1.6 7.1 40.8", "1.5 7.1 40.8", true, false)
-	wantKnows(t, "1.5 7.2 40.8", "1.5 7.1 40.8", true, false)
-	wantKnows(t, "1.5 7.1 40.9", "1.5 7.1 40.8", true, false)
-	wantKnows(t, "1.16777215", "1.16777214", true, false)
-	wantKnows(t, "1.6 7.1 40.8", "1.5 7.2 40.8", false, false)
-	// Who is not in it, is 0 there: nothing is known of him, and 0 is not greater than anything.
-	wantKnows(t, "1.5 7.1 40.8", "7.1 40.8", true, false)
-	wantKnows(t, "1.5 7.1 40.8", "1.5 40.8", true, false)
-	wantKnows(t, "1.5 7.1 40.8", "1.5 7.1", true, false)
-	wantKnows(t, "1.5 7.1 40.8", "7.1", true, false)
-	wantKnows(t, "1.5 7.1 40.8", "2.1", false, false)
-	wantKnows(t, "1.5 7.1 40.8", "41.1", false, false)
-	wantKnows(t, "2.5 7.1 40.8", "1.1 2.5 7.1 40.8", false, true)
-	wantKnows(t, "1.5", "7.5", false, false)
-	wantKnows(t, "1.9 2.9 3.9", "2.1 4.1", false, false)
-	wantKnows(t, "1.1", "1000000.1", false, false)
-	wantKnows(t, "1.5 7.1 40.8", "7.2", false, false)
+	for _, x := range knowsCases() {
+		wantKnows(t, x.a, x.b, x.knows, x.back)
+	}
 }
 
 // What is no clock is neither joined, nor does it know or is it known: not even by itself.
@@ -426,22 +453,35 @@ func edgeClocks() [][]impl.Stamp {
 	return list
 }
 
-// P17: who joined two clocks knows both, and nothing beside them.
-func TestWhoJoinedTwoClocksKnowsBoth(t *testing.T) {
+// A joining makes one list of two, and tells whether one has all of another one: of clocks, or of what else has two numbers like stamps.
+type joining struct {
+	right func(list []impl.Stamp) bool
+	join  func(a, b []impl.Stamp) []impl.Stamp
+	knows func(a, b []impl.Stamp) bool
+}
+
+func ofClocks() joining { return joining{impl.ClockOk, impl.Join2, impl.Knows} }
+
+// wantBoth asks of all pairs of edgeClocks: who joined them knows both, and nothing beside them, also when they are joined again.
+func (x joining) wantBoth(t *testing.T) {
+	t.Helper()
 	list := edgeClocks()
 	var counts [2]int
 	for _, a := range list {
 		for _, b := range list {
-			got, want := impl.Join2(a, b), joinThere(a, b)
-			if !slices.Equal(got, want) || !impl.ClockOk(got) {
-				t.Fatalf("Join2 of %q and %q is %q in place of %q", tellClock(a), tellClock(b), tellClock(got), tellClock(want))
+			got, want := x.join(a, b), joinThere(a, b)
+			if !slices.Equal(got, want) || !x.right(got) {
+				t.Fatalf("%q and %q are joined to %q in place of %q", tellClock(a), tellClock(b), tellClock(got), tellClock(want))
 			}
-			if !impl.Knows(got, a) || !impl.Knows(got, b) {
+			if !x.knows(got, a) || !x.knows(got, b) {
 				t.Fatalf("%q, joined of %q and %q, does not know both", tellClock(got), tellClock(a), tellClock(b))
 			}
-			knows := impl.Knows(a, b)
+			if !slices.Equal(x.join(got, a), got) || !slices.Equal(x.join(got, b), got) || !slices.Equal(x.join(b, a), got) {
+				t.Fatalf("%q, joined of %q and %q, changes when they are joined again", tellClock(got), tellClock(a), tellClock(b))
+			}
+			knows := x.knows(a, b)
 			if knows != knowsThere(a, b) || knows != slices.Equal(got, a) {
-				t.Fatalf("Knows of %q and %q is %v", tellClock(a), tellClock(b), knows)
+				t.Fatalf("%q knows %q: %v", tellClock(a), tellClock(b), knows)
 			}
 			counts[flagVal(knows).N]++
 		}
@@ -452,28 +492,29 @@ func TestWhoJoinedTwoClocksKnowsBoth(t *testing.T) {
 	}
 }
 
-// Whoever knows both knows what is joined of them; and who is joined of three, in whatever order, is one.
-func TestJoinedIsTheLeastThatKnowsBoth(t *testing.T) {
+// wantLeast asks of three: whoever knows two of them knows what is joined of these; and who is joined of all, in whatever order, is one.
+func (x joining) wantLeast(t *testing.T) {
+	t.Helper()
 	var list [][]impl.Stamp
 	for _, a := range edgeClocks() {
-		if impl.Count(a, 3) == 0 && impl.Count(a, impl.MaxId) < impl.MaxNum && impl.Count(a, 2) < impl.MaxNum {
+		if n := bookOf(a); n[3] == 0 && n[impl.MaxId] < impl.MaxNum && n[2] < impl.MaxNum {
 			list = append(list, a)
 		}
 	}
 	both := 0
 	for _, a := range list {
 		for _, b := range list {
-			joined := impl.Join2(a, b)
+			joined := x.join(a, b)
 			for _, c := range list {
-				knows := impl.Knows(c, a) && impl.Knows(c, b)
-				if impl.Knows(c, joined) != knows {
+				knows := x.knows(c, a) && x.knows(c, b)
+				if x.knows(c, joined) != knows {
 					t.Fatalf("%q, of %q and of %q: %v", tellClock(c), tellClock(a), tellClock(b), !knows)
 				}
 				both += flagVal(knows).N
-				if first, last := impl.Join2(joined, c), impl.Join2(a, impl.Join2(b, c)); !slices.Equal(first, last) {
+				if first, last := x.join(joined, c), x.join(a, x.join(b, c)); !slices.Equal(first, last) {
 					t.Fatalf("%q, %q and %q are joined to %q and %q", tellClock(a), tellClock(b), tellClock(c), tellClock(first), tellClock(last))
 				}
-				if impl.Knows(a, b) && impl.Knows(b, c) && !impl.Knows(a, c) {
+				if x.knows(a, b) && x.knows(b, c) && !x.knows(a, c) {
 					t.Fatalf("%q knows %q, that knows %q", tellClock(a), tellClock(b), tellClock(c))
 				}
 			}
@@ -483,6 +524,11 @@ func TestJoinedIsTheLeastThatKnowsBoth(t *testing.T) {
 		t.Errorf("%d, %d", len(list), both)
 	}
 }
+
+// P17: who joined two clocks knows both.
+func TestWhoJoinedTwoClocksKnowsBoth(t *testing.T) { ofClocks().wantBoth(t) }
+
+func TestJoinedIsTheLeastThatKnowsBoth(t *testing.T) { ofClocks().wantLeast(t) }
 
 // Who ticks gets ahead of what he was, and of all who knew no more than that.
 func TestTickGetsAhead(t *testing.T) {
@@ -605,16 +651,60 @@ func TestClocksThatAreFarTooGreat(t *testing.T) {
 	}
 }
 
-// A clockAsk makes a clock of two.
-type clockAsk struct {
+// A listAsk makes a list of two.
+type listAsk[T comparable] struct {
 	what string
-	ask  func(a, b []impl.Stamp) []impl.Stamp
+	ask  func(a, b []T) []T
 }
 
-func clockAsks() []clockAsk {
-	list := []clockAsk{{"Join2", impl.Join2}, {"Join2, the other way round", func(a, b []impl.Stamp) []impl.Stamp { return impl.Join2(b, a) }}}
+// wantUnwritten asks it of lists with spare room behind them, and then spoils what it has told and what it was given.
+func (x listAsk[T]) wantUnwritten(t *testing.T, first, second []T, spare, spoil T) {
+	t.Helper()
+	a, wholeA := roomy(first, spare)
+	b, wholeB := roomy(second, spare)
+	wereA, wereB := slices.Clone(wholeA), slices.Clone(wholeB)
+	got, again := x.ask(a, b), x.ask(a, b)
+	want := slices.Clone(got)
+	if !slices.Equal(wholeA, wereA) || !slices.Equal(wholeB, wereB) {
+		t.Fatalf("%s of %v and %v writes into them", x.what, first, second)
+	}
+	spoilAll(again, spoil)
+	if !slices.Equal(got, want) || !slices.Equal(wholeA, wereA) || !slices.Equal(wholeB, wereB) {
+		t.Fatalf("%s of %v and %v is not new memory", x.what, first, second)
+	}
+	spoilAll(a, spoil)
+	spoilAll(b, spoil)
+	if !slices.Equal(got, want) {
+		t.Fatalf("%s of %v and %v shares memory with them", x.what, first, second)
+	}
+}
+
+// wantOfPieces asks it of two pieces of one whole, which both may be all of it: it answers as of two lists that share nothing.
+func (x listAsk[T]) wantOfPieces(t *testing.T, whole []T, spoil T) {
+	t.Helper()
+	was := slices.Clone(whole)
+	for from := range whole {
+		for end := from; end <= len(whole); end++ {
+			got, want := x.ask(whole[:end], whole[from:]), x.ask(slices.Clone(was[:end]), slices.Clone(was[from:]))
+			if !slices.Equal(got, want) {
+				t.Fatalf("%s of what is ahead of %d and from %d on of %v: %v in place of %v", x.what, end, from, was, got, want)
+			}
+			spoilAll(got, spoil)
+			if !slices.Equal(whole, was) {
+				t.Fatalf("%s of what is ahead of %d and from %d on of %v: it is %v now", x.what, end, from, was, whole)
+			}
+		}
+	}
+}
+
+func clockAsks() []listAsk[impl.Stamp] {
+	back := func(a, b []impl.Stamp) []impl.Stamp { return impl.Join2(b, a) }
+	others := func(a, b []impl.Stamp) []impl.Stamp {
+		return []impl.Stamp{{Who: impl.Count(a, 1) + impl.Count(b, 8)}, {Who: flagVal(impl.ClockOk(a)).N}, {Who: flagVal(impl.Knows(a, b)).N}}
+	}
+	list := []listAsk[impl.Stamp]{{"Join2", impl.Join2}, {"Join2, the other way round", back}, {"Count, ClockOk and Knows", others}}
 	for _, who := range []int{-1, 0, 1, 2, 3, 40, impl.MaxId, impl.MaxId + 1} {
-		list = append(list, clockAsk{fmt.Sprint("Tick by ", who), func(a, _ []impl.Stamp) []impl.Stamp { return impl.Tick(a, who) }})
+		list = append(list, listAsk[impl.Stamp]{fmt.Sprint("Tick by ", who), func(a, _ []impl.Stamp) []impl.Stamp { return impl.Tick(a, who) }})
 	}
 	return list
 }
@@ -626,53 +716,18 @@ func clocksForMemory() []string {
 
 // P33: neither a list nor the spare room behind it is written, and an answer shares memory with none.
 func TestClocksWriteNothing(t *testing.T) {
-	spare := impl.Stamp{Who: 8, N: 77}
 	for _, x := range clockAsks() {
-		for _, first := range clocksForMemory() {
-			for _, second := range clocksForMemory() {
-				a, wholeA := roomy(clockOf(first), spare)
-				b, wholeB := roomy(clockOf(second), spare)
-				wereA, wereB := slices.Clone(wholeA), slices.Clone(wholeB)
-				got, again := x.ask(a, b), x.ask(a, b)
-				want := slices.Clone(got)
-				impl.ClockOk(a)
-				impl.Count(a, 1)
-				impl.Knows(a, b)
-				if !slices.Equal(wholeA, wereA) || !slices.Equal(wholeB, wereB) {
-					t.Fatalf("%s of %q and %q writes into them", x.what, first, second)
-				}
-				spoilAll(again, impl.Stamp{Who: 55, N: 55})
-				if !slices.Equal(got, want) || !slices.Equal(wholeA, wereA) || !slices.Equal(wholeB, wereB) {
-					t.Fatalf("%s of %q and %q is not new memory", x.what, first, second)
-				}
-				spoilAll(a, impl.Stamp{Who: 66, N: 66})
-				spoilAll(b, impl.Stamp{Who: 66, N: 66})
-				if !slices.Equal(got, want) {
-					t.Fatalf("%s of %q and %q shares memory with them", x.what, first, second)
-				}
+		for _, a := range clocksForMemory() {
+			for _, b := range clocksForMemory() {
+				x.wantUnwritten(t, clockOf(a), clockOf(b), impl.Stamp{Who: 8, N: 77}, impl.Stamp{Who: 55, N: 55})
 			}
 		}
 	}
 }
 
-// One list may be handed in as both, or two pieces of one whole.
 func TestClocksOfOneList(t *testing.T) {
-	whole := clockOf("1.5 2.7 3.9 4.1 5.2")
-	was := slices.Clone(whole)
-	for from := range whole {
-		for end := from; end <= len(whole); end++ {
-			a, b := whole[:end], whole[from:]
-			got := impl.Join2(a, b)
-			if tellClock(got) != tellClock(was) {
-				t.Fatalf("Join2 of %q and %q is %q", tellClock(a), tellClock(b), tellClock(got))
-			}
-			spoilAll(got, impl.Stamp{Who: 55, N: 55})
-			tick := impl.Tick(a, 3)
-			spoilAll(tick, impl.Stamp{Who: 55, N: 55})
-			if impl.Knows(a, b) != (end == len(whole)) || impl.Knows(b, a) != (end == 0 || from == 0) || !slices.Equal(whole, was) {
-				t.Fatalf("%d, %d: %q", from, end, tellClock(whole))
-			}
-		}
+	for _, x := range clockAsks() {
+		x.wantOfPieces(t, clockOf("1.5 2.7 3.9 4.1 5.2"), impl.Stamp{Who: 55, N: 55})
 	}
 }
 
