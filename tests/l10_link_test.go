@@ -6,6 +6,7 @@ import (
 	"slices"
 	"strconv"
 	"strings"
+	"sync"
 	"testing"
 
 	"loop.example/g00283/impl"
@@ -1836,6 +1837,31 @@ func wantToldAgain[T any](t *testing.T, list []T, tell func(T) string) {
 		if now := tell(list[0]); now != were[0] {
 			t.Fatalf("%+v: now %s, ahead of it %s", list[0], now, were[0])
 		}
+	}
+}
+
+// wantToldAtOnce: many that ask at once are answered as one that asks alone; all of them are given the same memory.
+func wantToldAtOnce[T any](t *testing.T, list []T, tell func(T) string) {
+	t.Helper()
+	var were []string
+	for _, x := range list {
+		were = append(were, tell(x))
+	}
+	var group sync.WaitGroup
+	var wrong [8]int
+	for i := range wrong {
+		group.Go(func() {
+			for k := range list {
+				at := (k*(1+2*(i%4)) + i) % len(list)
+				if tell(list[at]) != were[at] {
+					wrong[i]++
+				}
+			}
+		})
+	}
+	group.Wait()
+	if wrong != [8]int{} {
+		t.Fatalf("at once, others are told: %v", wrong)
 	}
 }
 

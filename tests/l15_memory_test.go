@@ -299,11 +299,16 @@ func TestMemoryOkOfTurnedMemories(t *testing.T) {
 	}
 }
 
+// otherProgs are one turn away from p, or twisted, or have no class.
+func otherProgs(p impl.Prog) []impl.Prog {
+	return append(append(wrongTurns(p), listTurns(p)...), append(twistedProgs(), impl.Prog{})...)
+}
+
 // MemoryOk asks of a program only for its classes and their fields: whatever else it is, does not count.
 func TestMemoryOkOfOtherPrograms(t *testing.T) {
 	var counts [2]int
 	p := memoryProg(t)
-	for _, q := range append(append(wrongTurns(p), listTurns(p)...), append(twistedProgs(), impl.Prog{})...) {
+	for _, q := range otherProgs(p) {
 		for _, told := range []string{"", someMemory, "7.0 5 @0", "7.0", "1.3 | 1 2 3", "1.3; 2.3", "4.1 0 @4 @0 5", "4.5 @0 @0", "4.5 @0 @0 | 5 1 1"} {
 			m := memoryOf(told)
 			right := memoryRight(q, m)

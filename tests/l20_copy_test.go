@@ -111,22 +111,28 @@ func wantCopiesOk(t *testing.T, p impl.Prog, right bool, list ...string) {
 	}
 }
 
-func TestCopiesOkOfRightOnes(t *testing.T) {
-	p := memoryProg(t)
-	wantCopiesOk(t, p, true, "", someCopies,
+// rightCopies and wrongCopies are so by memoryText, whatever their Twins are.
+func rightCopies() []string {
+	return []string{
+		"", someCopies,
 		// Numbers, and the least and the most of each.
 		"1.3 +0", "1000000.3 +0", "1.3 +16777215", "1.3 -16777215", "1.3 +0; 2.3 +0", "999999.3 +1; 1000000.3 -1", "1.3 +5; 1000000.3 +0", "3.3 +0; 4.3 +0; 5.3 +0; 500.3 +0",
 		// Fields of its own, and of its super.
 		"7.0 +1 -2147483648 @0", "7.0 +1 2147483647 @1000000", "7.0 -1 0 @7", "7.1 +1 5 @1 @2 6", "7.2 +1 5 @1 @2 6 @3", "7.4 +1 1 2 @3 4 @5 @6 @7 8", "7.5 +1 @0 @0",
-		// Twins.
+	}
+}
+
+func TestCopiesOkOfRightOnes(t *testing.T) {
+	p := memoryProg(t)
+	wantCopiesOk(t, p, true, rightCopies()...)
+	wantCopiesOk(t, p, true,
 		"7.0 +1 5 @1 / 5 @1", "7.0 -1 5 @1 / 2147483647 @1000000", "7.0 +1 5 @1 / -2147483648 @0", "7.1 +1 5 @1 @2 6 / 6 @2 @1 5", "7.5 +1 @0 @0 / @1 @2",
 		"7.4 +1 1 2 @3 4 @5 @6 @7 8 / 8 7 @6 5 @4 @3 @2 1", "7.0 +1 5 @1; 8.0 +1 5 @1 / 6 @2; 9.0 +1 5 @1",
 	)
 }
 
-func TestCopiesOkOfWrongOnes(t *testing.T) {
-	p := memoryProg(t)
-	wantCopiesOk(t, p, false,
+func wrongCopies() []string {
+	return []string{
 		// Numbers that are none, or do not ascend.
 		"0.3 +1", "-1.3 +1", "1000001.3 +1", "0.3 +1; 1.3 +1", "-3.3 +1; 1.3 +1", "1.3 +1; 1000001.3 +1", "2.3 +1; 1.3 +1", "1.3 +1; 1.3 +1", "1.3 +1; 1.3 -2", "1.3 +1; 3.3 +1; 2.3 +1",
 		"1.3 +1; 2.3 +1; 1.3 +1", "1.3 +1; 2.3 +1; 2.3 +1", "3.3 +1; 1.3 +1; 2.3 +1", "5.0 +1 1 @0; 5.0 +1 1 @0", "5.0 +1 1 @0; 5.3 +1",
@@ -141,7 +147,12 @@ func TestCopiesOkOfWrongOnes(t *testing.T) {
 		"1.0 +1 2147483648 @0", "1.0 +1 -2147483649 @0", "1.0 -1 9223372036854775807 @0", "1.0 +1 0 @-1", "1.0 +1 0 @1000001", "1.0 -1 0 @-9223372036854775808", "1.1 +1 0 @0 @0 2147483648", "1.4 +1 2147483648 0 @0 0 @0 @0 @0 0", "1.5 +1 @0 @1000001", "1.3 +1; 2.0 +1 0 @-1",
 		// A Ref where the type is `I`, and none where it is a class.
 		"1.0 +1 @0 @0", "1.0 +1 @5 @0", "1.0 +1 0 0", "1.0 -1 0 5", "1.0 +1 @0 0", "1.1 +1 0 @0 0 0", "1.1 +1 0 @0 @0 @0", "1.2 +1 0 @0 @0 0 0", "1.4 +1 0 0 @0 0 @0 @0 @0 @0", "1.4 +1 0 0 @0 0 @0 0 @0 0", "1.5 +1 0 @0", "1.5 +1 @0 0", "1.3 +1; 2.5 +1 @0 0",
-	)
+	}
+}
+
+func TestCopiesOkOfWrongOnes(t *testing.T) {
+	p := memoryProg(t)
+	wantCopiesOk(t, p, false, wrongCopies()...)
 	wantCopiesOk(t, p, false,
 		// The same of Twins.
 		"1.3 +1 / 0", "1.3 +1 / @0", "1.0 +1 5 @1 / 5", "1.0 +1 5 @1 / @1", "1.0 +1 5 @1 / 5 @1 0", "1.0 +1 5 @1 / 5 @1 @1", "1.1 +1 0 @0 @0 0 / 0 @0 @0", "1.1 +1 0 @0 @0 0 / 0 @0 @0 0 0", "1.5 +1 @0 @0 / @0", "1.5 +1 @0 @0 / @0 @0 @0",
@@ -231,8 +242,7 @@ func TestCopiesOkOfTurnedCopies(t *testing.T) {
 // CopiesOk asks of a program only for its classes and their fields.
 func TestCopiesOkOfOtherPrograms(t *testing.T) {
 	var counts [2]int
-	p := memoryProg(t)
-	for _, q := range append(append(wrongTurns(p), listTurns(p)...), append(twistedProgs(), impl.Prog{})...) {
+	for _, q := range otherProgs(memoryProg(t)) {
 		for _, told := range []string{"", someCopies, "7.0 +1 5 @0", "7.0 +1", "1.3 -2; 2.3 +1", "4.1 +1 0 @4 @0 5 / 1 @0 @0 6", "4.5 +1 @0 @0", "4.5 +1 @0 @0 / @4 @4"} {
 			list := copiesOf(told)
 			right := copiesRight(q, list)
